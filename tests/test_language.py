@@ -23,6 +23,11 @@ OUT = re.compile(r"""\b(type|typing|typing_extensions|enum|Enum|IntEnum|StrEnum|
 |namedtuple|NamedTuple|TypedDict|TYPE_CHECKING|abstractmethod)\b|dataclass|overload|contextmanager""", re.VERBOSE)
 
 
+METHODS = set("""append clear copy count endswith extend find get index insert isalnum isalpha isdigit islower isspace
+isupper items join keys ljust lower lstrip partition pop remove replace reverse rfind rjust rpartition rsplit rstrip
+setdefault split splitlines startswith strip update upper values zfill bit_length""".split())
+
+
 def sources():
     return sorted(path for path in FOLDER.iterdir() if path.name != "__pycache__")
 
@@ -78,6 +83,38 @@ class Language(unittest.TestCase):
             self.assertFalse(node.arg.startswith("_") or hasattr(builtins, node.arg), where)
         for where, node in self.each_node(ast.Attribute):
             self.assertFalse(node.attr.startswith("_"), where)
+
+    def test_locals_are_not_called_like_imports_and_classes(self):
+        for path in sources():
+            taken = set()
+            for node in nodes(path):
+                if isinstance(node, ast.ImportFrom):
+                    taken |= {alias.name for alias in node.names}
+                if isinstance(node, ast.ClassDef):
+                    taken.add(node.name)
+            for node in nodes(path):
+                if isinstance(node, ast.arg):
+                    self.assertNotIn(node.arg, taken, path.name)
+                if isinstance(node, ast.Name) and isinstance(node.ctx, ast.Store):
+                    self.assertNotIn(node.id, taken, path.name)
+
+    def test_methods_and_values(self):
+        methods = set()
+        for where, node in self.each_node(ast.ClassDef):
+            methods |= {part.name for part in node.body if isinstance(part, ast.FunctionDef)}
+        for where, node in self.each_node(ast.Call):
+            if isinstance(node.func, ast.Attribute):
+                self.assertIn(node.func.attr, METHODS | methods, where)
+        for where, node in self.each_node(ast.Attribute):
+            if isinstance(node.ctx, ast.Store):
+                self.assertNotIn(node.attr, METHODS | methods, where)
+
+    def test_numbers_and_texts(self):
+        for where, node in self.each_node(ast.Pow, ast.Constant):
+            self.assertNotIsInstance(node, ast.Pow, where)
+            if isinstance(node, ast.Constant):
+                self.assertIn(node.value.__class__, (int, str, bool, None.__class__), where)
+                self.assertNotIn("%", str(node.value), where)
 
 
 if __name__ == "__main__":

@@ -1,30 +1,13 @@
 import unittest
-from itertools import product
 
-from helper import LASTS, SURE, ask, begins, check_refused, draw, rule, slow_lasts, told_rules, urn
-
-
-def pairs_of(k):
-    return [(a, b) for a in range(k) for b in range(a, k)]
-
-
-def urns_of(k, most):
-    return [balls for balls in product(range(most + 1), repeat=k) if 1 <= sum(balls) <= most]
+from helper import LASTS, SURE, all_rules, ask, begins, check_refused, check_urns, draw, pairs_of, rule, slow_lasts
+from helper import slow_sure, some_rules, told_rules, urn, urns_of
 
 
 class LastsAndSure(unittest.TestCase):
     def check(self, k, outcomes, many_balls):
-        """lasts and sure against the slow way, five urns a line, as a line has so many of them."""
-        for at in range(0, len(many_balls), 5):
-            asked = many_balls[at:at + 5]
-            ahead = [begins(k)] + told_rules(outcomes)
-            calls = [call for balls in asked for call in (urn(*balls), LASTS, SURE)]
-            shown = ask(*ahead, *calls)[len(ahead):]
-            for place, balls in enumerate(asked):
-                colours = slow_lasts(outcomes, balls)
-                sure = [1, colours[0]] if len(colours) == 1 else [0]
-                told = shown[3 * place:3 * place + 3]
-                self.assertEqual(told, [[sum(balls)], [len(colours)] + colours, sure], (outcomes, balls))
+        check_urns(self, k, outcomes, many_balls, LASTS, slow_lasts)
+        check_urns(self, k, outcomes, many_balls, SURE, slow_sure)
 
     def test_no_ball(self):
         for call in (LASTS, SURE):
@@ -63,24 +46,21 @@ class LastsAndSure(unittest.TestCase):
 
     def test_four_of_four(self):
         outcomes = {(a, b): (a + 2 * b + 1) % 4 for a, b in pairs_of(4)}
-        self.assertEqual(slow_lasts(outcomes, (2, 2, 2, 2)), [0, 1, 2, 3])
+        self.assertEqual(slow_lasts(outcomes, (2, 2, 2, 2)), [4, 0, 1, 2, 3])
         shown = ask(begins(4), *told_rules(outcomes), urn(2, 2, 2, 2), LASTS, SURE)
         self.assertEqual(shown[-2:], [[4, 0, 1, 2, 3], [0]])
 
     def test_all_rules_of_two_colours(self):
-        for comes in product(range(2), repeat=3):
-            self.check(2, dict(zip(pairs_of(2), comes)), urns_of(2, 8))
+        for outcomes in all_rules(2):
+            self.check(2, outcomes, urns_of(2, 8))
 
     def test_all_rules_of_three_colours(self):
-        for comes in product(range(3), repeat=6):
-            self.check(3, dict(zip(pairs_of(3), comes)), [(1, 1, 1), (2, 0, 1), (0, 3, 2), (2, 2, 2)])
+        for outcomes in all_rules(3):
+            self.check(3, outcomes, [(1, 1, 1), (2, 0, 1), (0, 3, 2), (2, 2, 2)])
 
     def test_urns_of_three_and_four_colours(self):
         for k in (3, 4):
-            rules = [{(a, b): (a * b + step * (a + b) + step) % k for a, b in pairs_of(k)} for step in range(k)]
-            rules.append({(a, b): max(a, b) for a, b in pairs_of(k)})
-            rules.append({(a, b): (b + 1) % k if a == b else a for a, b in pairs_of(k)})
-            for outcomes in rules:
+            for outcomes in some_rules(k):
                 full = [balls for balls in urns_of(k, 8) if sum(balls) == 8]
                 self.check(k, outcomes, urns_of(k, 3) + full[::7])
 

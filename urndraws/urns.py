@@ -1,6 +1,8 @@
 """The calls about one urn, read out of one list of numbers and answered in order."""
 
-from urndraws.draws import can_draw, drawn, last_colours, lower_outcomes
+from urndraws.averages import average_of
+from urndraws.draws import after_draws, count_urns, drawn, last_colours, lower_outcomes, ways_to_draw
+from urndraws.sureness import count_rules, count_sure_rules, first_that_matter
 
 BEGINS = 0
 RULE = 1
@@ -8,6 +10,10 @@ URN = 2
 DRAW = 3
 LASTS = 4
 SURE = 5
+COMES = 6
+CHANCES = 7
+AVERAGE = 8
+MATTER = 9
 
 # How many numbers follow a call's number; urn isn't here, as its row tells its own length.
 NUMBERS_OF_CALL = {0: 1, 1: 3, 3: 2, 4: 0, 5: 0, 6: 0, 7: 0, 8: 2, 9: 0, 10: 1}
@@ -15,6 +21,8 @@ NUMBERS_OF_CALL = {0: 1, 1: 3, 3: 2, 4: 0, 5: 0, 6: 0, 7: 0, 8: 2, 9: 0, 10: 1}
 FEWEST_COLOURS = 2
 MOST_COLOURS = 4
 MOST_BALLS = 8
+# Of 4 colours there are more than a million rules, too many to go through.
+MOST_COLOURS_OF_RULES = 3
 
 
 class Urn:
@@ -53,7 +61,7 @@ class Urn:
     def draw(self, a, b):
         if not (self.has_colour(a) and self.has_colour(b)):
             return [-1]
-        if not can_draw(self.balls, a, b):
+        if ways_to_draw(self.balls, a, b) == 0:
             return [-2]
         self.balls = drawn(self.outcomes, self.balls, a, b)
         return [self.outcomes[a][b]] + self.balls
@@ -71,6 +79,38 @@ class Urn:
         if len(colours) == 1:
             return [1, colours[0]]
         return [0]
+
+    def comes(self):
+        return [count_urns(self.outcomes, self.balls)]
+
+    def chances(self):
+        if sum(self.balls) == 0:
+            return [-9]
+        urns = after_draws(self.outcomes, self.balls, sum(self.balls) - 1)
+        told = [0]
+        for colour in range(len(self.balls)):
+            # Of one ball, how many have the colour on average is how likely it has it.
+            told.extend(average_of(urns, colour))
+        return told
+
+    def average(self, left, colour):
+        if not self.has_colour(colour):
+            return [-1]
+        if left == 0 or left > sum(self.balls):
+            return [-2]
+        urns = after_draws(self.outcomes, self.balls, sum(self.balls) - left)
+        return [0] + average_of(urns, colour)
+
+    def matter(self):
+        three = first_that_matter(self.outcomes)
+        if three == []:
+            return [1]
+        return [0] + three
+
+    def rules(self, colours):
+        if colours < FEWEST_COLOURS or colours > MOST_COLOURS_OF_RULES:
+            return [-1]
+        return [count_rules(colours), count_sure_rules(colours)]
 
 
 def numbers_begin(calls, place):
@@ -102,8 +142,15 @@ def answer(urn, call, numbers):
         return urn.lasts()
     if call == SURE:
         return urn.sure()
-    # Better no answer than a wrong one for a call that isn't built yet.
-    raise KeyError(call)
+    if call == COMES:
+        return urn.comes()
+    if call == CHANCES:
+        return urn.chances()
+    if call == AVERAGE:
+        return urn.average(numbers[0], numbers[1])
+    if call == MATTER:
+        return urn.matter()
+    return urn.rules(numbers[0])
 
 
 def answers(calls):
